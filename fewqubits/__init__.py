@@ -1,0 +1,1 @@
+"""Circuits of a few qubits, worked out exactly."""

@@ -47,3 +47,15 @@ def all_hold_root(numbers):
         if (a + c) % 2 != 0 or (b + d) % 2 != 0:
             return False
     return True
+
+
+def squared_sizes(numbers):
+    """Of each number its size squared, which is x + y times the root of 2, as (x, y)."""
+    return [(a * a + b * b + c * c + d * d, a * b + b * c + c * d - d * a) for a, b, c, d in numbers]
+
+
+def is_below(whole, x, y):
+    """Whether whole is below x + y times the root of 2."""
+    rest = x - whole
+    # A square that keeps its sign keeps the order too, and rids the root: no rounding.
+    return rest * abs(rest) + 2 * y * abs(y) > 0

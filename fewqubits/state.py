@@ -1,7 +1,8 @@
 """The state of a few qubits, and the calls on it."""
 
 from fewqubits.circuit import told_gate, words
-from fewqubits.exact import ONE, ZERO, added, all_hold_root, over_root, subtracted, times_root, turned
+from fewqubits.exact import ONE, ZERO, added, all_hold_root, is_below, over_root, squared_sizes, subtracted
+from fewqubits.exact import times_root, turned
 
 DONE = 0
 REFUSED = -1
@@ -11,6 +12,7 @@ TOO_LONG = -65537
 MOST_QUBITS = 10
 MOST_K = 120
 LONGEST_TEXT = 65536
+DRAWN_BITS = 64
 
 X = 0
 Y = 1
@@ -20,13 +22,16 @@ LAST_KIND = 7
 # The kinds that only turn the amplitudes with the target's bit: by how many eighths.
 TURNS = {2: 4, 3: 2, 4: 6, 5: 1, 6: 7}
 
+# The calls' numbers.
 BEGIN = 0
 GATE = 1
 RUN = 2
+AMPLITUDE = 3
+CHANCE = 4
+DRAW = 5
 
-
-class UnknownCall(ValueError):
-    """A call's number that the program does not know."""
+# How many numbers each call has, its own number among them; the bytes of run's text come on top.
+LENGTHS = (3, 5, 2, 2, 3, 2)
 
 
 class State:
@@ -80,6 +85,33 @@ class State:
             done = done + 1
         return done
 
+    def amplitude(self, place):
+        """k, and a, b, c, d of the amplitude at place, as a list."""
+        if place >= 1 << self.qubits:
+            return [REFUSED]
+        return [self.k] + list(self.amplitudes[place])
+
+    def chance(self, mask, value):
+        """k, and x and y of how likely the qubits of mask are seen as value's bits, as a list."""
+        if (mask | value) >> self.qubits != 0 or value & mask != value:
+            return [REFUSED]
+        seen = [self.amplitudes[p] for p in range(1 << self.qubits) if p & mask == value]
+        sizes = squared_sizes(seen)
+        return [self.k, sum([x for x, y in sizes]), sum([y for x, y in sizes])]
+
+    def draw(self, number):
+        """The least place for which number / 2^64 is below the chances up to it together."""
+        sizes = squared_sizes(self.amplitudes)
+        place = -1
+        x = 0
+        y = 0
+        # Both sides are taken times 2^64 and 2^k, so that they stay whole.
+        while not is_below(number << self.k, x << DRAWN_BITS, y << DRAWN_BITS):
+            place = place + 1
+            x = x + sizes[place][0]
+            y = y + sizes[place][1]
+        return place
+
     def allows(self, kind, target, on, off):
         """Whether there is such a gate on this many qubits."""
         if kind < 0 or kind > LAST_KIND or target < 0 or target >= self.qubits:
@@ -120,13 +152,10 @@ class State:
 
 def call_length(calls, at):
     """How many numbers the call that begins at this index has, its own number among them."""
-    if calls[at] == BEGIN:
-        return 3
-    if calls[at] == GATE:
-        return 5
+    length = LENGTHS[calls[at]]
     if calls[at] == RUN:
-        return 2 + calls[at + 1]
-    raise UnknownCall("the call is not known")
+        length = length + calls[at + 1]
+    return length
 
 
 def answer(state, call):
@@ -135,7 +164,13 @@ def answer(state, call):
         return [state.begin(call[1], call[2])]
     if call[0] == GATE:
         return [state.gate(call[1], call[2], call[3], call[4])]
-    return [state.run(call[2:])]
+    if call[0] == RUN:
+        return [state.run(call[2:])]
+    if call[0] == AMPLITUDE:
+        return state.amplitude(call[1])
+    if call[0] == CHANCE:
+        return state.chance(call[1], call[2])
+    return [state.draw(call[1])]
 
 
 def answers(calls):

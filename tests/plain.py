@@ -4,7 +4,13 @@ It shares no code with the package. A number is a list of four fractions
 a, b, c, d: a + b w + c w^2 + d w^3, over nothing.
 """
 
+from bisect import bisect_right
 from fractions import Fraction
+from math import ceil, floor, isqrt
+
+# The root of 2 lies between these two, which are closer than any chances ever are.
+ROOT_LOW = Fraction(isqrt(2 * 4 ** 1000), 2 ** 1000)
+ROOT_HIGH = ROOT_LOW + Fraction(1, 2 ** 1000)
 
 
 def number(a=0, b=0, c=0, d=0):
@@ -45,8 +51,24 @@ MATRICES = [
 ]
 
 
+def size_squared(x):
+    """What x times its conjugate is: fractions p, q of p + q times the root of 2."""
+    product = times(x, [x[0], -x[3], -x[2], -x[1]])
+    assert product[2] == 0 and product[3] == -product[1]
+    return product[0], product[1]
+
+
+def bounds(p, q):
+    """Two fractions between which p + q times the root of 2 lies; both are it if q is 0."""
+    return min(p + q * ROOT_LOW, p + q * ROOT_HIGH), max(p + q * ROOT_LOW, p + q * ROOT_HIGH)
+
+
 def is_whole(amplitudes):
     return all(part.denominator == 1 for amplitude in amplitudes for part in amplitude)
+
+
+def bits_of(number):
+    return [i for i in range(40) if number >> i & 1]
 
 
 class PlainState:
@@ -59,6 +81,11 @@ class PlainState:
         """k and the whole amplitudes over the root of 2 to the power k."""
         k = 0
         scaled = self.amplitudes
+        widest = max(part.denominator for amplitude in scaled for part in amplitude)
+        if widest > 1:
+            # Half of the widest, a power of 2, still leaves a fraction: no smaller k need be tried.
+            k = 2 * (widest.bit_length() - 2)
+            scaled = [[part * (widest // 2) for part in amplitude] for amplitude in scaled]
         while not is_whole(scaled):
             scaled = [times(amplitude, ROOT) for amplitude in scaled]
             k += 1
@@ -67,9 +94,7 @@ class PlainState:
     def refuses(self, kind, target, on, off):
         if kind not in range(8) or target not in range(self.n):
             return True
-        bits_on = [i for i in range(40) if on >> i & 1]
-        bits_off = [i for i in range(40) if off >> i & 1]
-        told = bits_on + bits_off + [target]
+        told = bits_of(on) + bits_of(off) + [target]
         return max(told) >= self.n or len(set(told)) != len(told)
 
     def gate(self, kind, target, on, off):
@@ -89,3 +114,41 @@ class PlainState:
             self.amplitudes = before
             return -2
         return 0
+
+    def beside(self, higher):
+        """This state and another one as one state, the other's qubits above this one's."""
+        both = PlainState(self.n + higher.n, 0)
+        both.amplitudes = [times(low, high) for high in higher.amplitudes for low in self.amplitudes]
+        return both
+
+    def amplitude(self, place):
+        k, amplitudes = self.least()
+        return [k, *amplitudes[place]] if place < 2 ** self.n else [-1]
+
+    def chance(self, mask, value):
+        bits = bits_of(mask)
+        if any(bit >= self.n for bit in bits) or any(bit not in bits for bit in bits_of(value)):
+            return [-1]
+        k = self.least()[0]
+        p, q = Fraction(0), Fraction(0)
+        for place, amplitude in enumerate(self.amplitudes):
+            if all(place >> i & 1 == value >> i & 1 for i in bits):
+                more = size_squared(amplitude)
+                p, q = p + more[0], q + more[1]
+        assert (p * 2 ** k).denominator == (q * 2 ** k).denominator == 1
+        return [k, int(p * 2 ** k), int(q * 2 ** k)]
+
+    def ends(self):
+        """For each place the least number that draw does not answer by it or a place before it."""
+        p, q = Fraction(0), Fraction(0)
+        found = []
+        for amplitude in self.amplitudes:
+            more = size_squared(amplitude)
+            p, q = p + more[0], q + more[1]
+            low, high = bounds(p * 2 ** 64, q * 2 ** 64)
+            assert q == 0 or floor(low) == floor(high)
+            found.append(ceil(high))
+        return found
+
+    def draw(self, number):
+        return bisect_right(self.ends(), number)

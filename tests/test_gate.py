@@ -1,9 +1,9 @@
-import random
 import unittest
 
 from fewqubits.state import State, answers
 from tests.calls import begin, first_numbers, gate
 from tests.plain import PlainState
+from tests.ways import all_gates, mixing_way, plain_after, random_way
 
 H = 7
 T = 5
@@ -25,12 +25,9 @@ def seen(state):
 def all_different(n):
     """A state and its plain twin of which no two amplitudes are alike."""
     state = begun(n, 0)
-    plain = PlainState(n, 0)
-    for target in range(n):
-        for kind in (H, T, H) + (3, H, T) * target:
-            state.gate(kind, target, 0, 0)
-            plain.gate(kind, target, 0, 0)
-    return state, plain
+    for kind, target, on, off in mixing_way(n):
+        state.gate(kind, target, on, off)
+    return state, plain_after(n, 0, mixing_way(n))
 
 
 def at_the_edge():
@@ -91,15 +88,10 @@ class KindsTest(unittest.TestCase):
 
     def test_every_kind_target_and_control_on_mixed_states(self):
         for n in (1, 2, 3):
-            for kind in range(8):
-                for target in range(n):
-                    others = [bit for bit in range(n) if bit != target]
-                    for choice in range(3 ** len(others)):
-                        state, plain = all_different(n)
-                        on = sum(1 << bit for i, bit in enumerate(others) if choice // 3 ** i % 3 == 1)
-                        off = sum(1 << bit for i, bit in enumerate(others) if choice // 3 ** i % 3 == 2)
-                        self.assertEqual(state.gate(kind, target, on, off), plain.gate(kind, target, on, off))
-                        self.assertEqual(seen(state), plain.least(), (n, kind, target, on, off))
+            for kind, target, on, off in all_gates(n):
+                state, plain = all_different(n)
+                self.assertEqual(state.gate(kind, target, on, off), plain.gate(kind, target, on, off))
+                self.assertEqual(seen(state), plain.least(), (n, kind, target, on, off))
 
     def test_ten_qubits_with_the_highest_as_target_and_as_control(self):
         state = begun(10, 0)
@@ -116,17 +108,11 @@ class KindsTest(unittest.TestCase):
 class LeastTest(unittest.TestCase):
     def test_long_ways_keep_the_state_least(self):
         for seed in range(12):
-            chosen = random.Random(seed)
             n = 1 + seed % 4
-            place = chosen.randrange(2 ** n)
+            place = seed % 2 ** n
             state = begun(n, place)
             plain = PlainState(n, place)
-            for step in range(60):
-                kind = chosen.choice((0, 1, 2, 3, 4, 5, 5, 6, H, H, H, H))
-                target = chosen.randrange(n)
-                free = [1 << bit for bit in range(n) if bit != target]
-                on = sum(bit for bit in free if chosen.randrange(4) == 0)
-                off = sum(bit for bit in free if not bit & on and chosen.randrange(4) == 0)
+            for step, (kind, target, on, off) in enumerate(random_way(seed, n, 60)):
                 self.assertEqual(state.gate(kind, target, on, off), plain.gate(kind, target, on, off))
                 self.assertEqual(seen(state), plain.least(), (seed, step))
 
